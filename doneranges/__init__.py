@@ -1,0 +1,1 @@
+"""Doneranges: what several houses have done, told as stretches of numbers."""
