@@ -12,6 +12,16 @@ def stamp(deed):
     return (time, house, number)
 
 
+def name_of(deed):
+    """Tell the name of a deed, its house and number."""
+    return (deed[0], deed[1])
+
+
+def word_of(deed):
+    """Tell the word of what a deed does."""
+    return deed[3][0]
+
+
 def is_change(parts):
     """Tell whether these are the parts of a put or an add."""
     return len(parts) == 2 and is_number(parts[0], 0, LAST_KEY) and is_number(parts[1], -LIMIT, LIMIT)
@@ -59,14 +69,24 @@ def check_deeds(deeds):
             raise BadDeed(at)
 
 
+def in_order(deeds):
+    """Tell what surely are deeds by their stamps, each once."""
+    by_name = {name_of(deed): deed for deed in deeds}
+    return sorted(by_name.values(), key=stamp)
+
+
+def rows_of(deeds):
+    """Tell the set of what surely are deeds."""
+    return fewest([(deed[0], deed[1], deed[1]) for deed in deeds])
+
+
 def ordered(deeds):
     """Tell deeds by their stamps, each once."""
     check_deeds(deeds)
-    by_name = {(deed[0], deed[1]): deed for deed in deeds}
-    return sorted(by_name.values(), key=stamp)
+    return in_order(deeds)
 
 
 def stretches(deeds):
     """Tell the set of deeds."""
     check_deeds(deeds)
-    return fewest([(deed[0], deed[1], deed[1]) for deed in deeds])
+    return rows_of(deeds)

@@ -51,6 +51,11 @@ def check_house(house):
         raise NoHouse("the houses are numbered from 0 to 7")
 
 
+def is_in(rows, house, number):
+    """Tell whether a deed is in rows."""
+    return any(maker == house and first <= number <= last for maker, first, last in rows)
+
+
 def changes_of(weighed):
     """Tell of pairs (row, weight) at which (house, number) their sum of weights changes, and by what."""
     changes = {}
@@ -95,3 +100,16 @@ def without(one, other):
     kept = [(row, 1) for row in fewest(one)]
     barred = [(row, -1) for row in other]
     return reaching(kept + barred, 1)
+
+
+def whole_in(rows, house):
+    """Tell up to which number a house's deeds are in rows without a gap, 0 for none."""
+    for maker, first, last in fewest(rows):
+        if maker == house and first == 1:
+            return last
+    return 0
+
+
+def last_in(rows, house):
+    """Tell the number of a house's last deed that is in rows, 0 for none."""
+    return max([last for maker, _, last in rows if maker == house], default=0)

@@ -1,7 +1,7 @@
 """Sets of deeds, told as stretches: lists of rows (house, first, last)."""
 
 from doneranges.errors import BadCount
-from doneranges.rows import check_house, check_rows, fewest, held_by_many, without
+from doneranges.rows import check_house, check_rows, fewest, held_by_many, is_in, whole_in, without
 
 
 def plain(rows):
@@ -57,7 +57,7 @@ def has(rows, house, number):
     """Tell whether a deed is in a set."""
     check_rows(rows)
     check_house(house)
-    return any(maker == house and first <= number <= last for maker, first, last in rows)
+    return is_in(rows, house, number)
 
 
 def amount(rows):
@@ -70,7 +70,4 @@ def whole_to(rows, house):
     """Tell up to which number a house's deeds are in a set without a gap, 0 for none."""
     check_rows(rows)
     check_house(house)
-    for maker, first, last in fewest(rows):
-        if maker == house and first == 1:
-            return last
-    return 0
+    return whole_in(rows, house)
