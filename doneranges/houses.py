@@ -1,12 +1,11 @@
 """Houses: each does deeds, takes those of the others, and tells what it holds."""
 
+from doneranges.counts import check_many, check_one_of
 from doneranges.deeds import in_order, is_change, is_deed, name_of, rows_of, stamp, word_of
-from doneranges.errors import BadDeed, NoDeed, NoHouse
-from doneranges.rows import check_rows, fewest, held_by_many, is_in, is_number, last_in, whole_in, without
+from doneranges.errors import BadDeed, NoDeed
+from doneranges.rows import check_rows, fewest, held_by_many, is_in, last_in, whole_in, without
 from doneranges.stores import is_lasting, no_worths, standing, worths_behind
 
-LEAST_HOUSES = 2
-MOST_HOUSES = 6
 # No deed has so small a stamp.
 NEVER_CUT = (0, 0, 0)
 
@@ -15,8 +14,8 @@ class House:
     """One of two to six houses."""
 
     def __init__(self, me, many):
-        if not is_number(many, LEAST_HOUSES, MOST_HOUSES) or not is_number(me, 0, many - 1):
-            raise NoHouse("a house is one of two to six")
+        check_many(many)
+        check_one_of(me, many)
         self._me = me
         self._many = many
         self._time = 0

@@ -1,4 +1,4 @@
-"""The names, the arguments and the places of the interface, as far as it has landed."""
+"""The names, the arguments and the places of the interface."""
 
 import importlib
 import inspect
@@ -33,6 +33,21 @@ FUNCTIONS = {
         "copy": ["house"],
         "renew": ["house", "told"],
     },
+    "doneranges.leads": {
+        "wrongly": ["lead", "dones"],
+    },
+    "doneranges.sending": {
+        "plan": ["dones", "bases"],
+    },
+    "doneranges.worlds": {
+        "played": ["many", "events"],
+    },
+    "doneranges.notes": {
+        "written": ["rows"],
+        "written_deed": ["deed"],
+        "read": ["text"],
+        "read_deed": ["text"],
+    },
 }
 
 CLASSES = {
@@ -56,6 +71,25 @@ CLASSES = {
             "now": [],
             "number": [],
             "count": [],
+        },
+    },
+    "doneranges.leads": {
+        "Seat": {
+            "__init__": [],
+            "hold": ["rows"],
+            "ask": ["term"],
+            "keep": ["term", "rows"],
+            "holds": [],
+            "last_term": [],
+        },
+        "Lead": {
+            "__init__": ["many"],
+            "heard": ["seat", "rows"],
+            "begin": ["rows"],
+            "kept": ["seat", "rows"],
+            "must": [],
+            "shown": [],
+            "leads": [],
         },
     },
 }
